@@ -1,0 +1,1 @@
+"""Knownquiet: when all is quiet, and who may say so."""

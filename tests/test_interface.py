@@ -1,0 +1,56 @@
+"""The interface: names, the files that define them, their arguments in order."""
+
+import importlib
+import inspect
+import unittest
+
+FUNCTIONS = {
+    "works": {
+        "is_task": "works thing", "is_standing": "works thing", "is_quiet": "works standing",
+        "sent_by": "works house task", "tasks_of": "works house task", "many_tasks": "works task",
+        "longest_way": "works task", "still_to_do": "works standing", "first_standing": "works given",
+        "done_by": "works standing house", "heard_by": "works standing house sender", "plain_run": "works given",
+    },
+    "links": {"outgoing_of": "state", "incoming_of": "state"},
+}
+CLASSES = {
+    "works": {"Works": {"__init__": "self many rules", "__eq__": "self other"}},
+    "links": {
+        "Outgoing": {
+            "__init__": "self", "put": "self thing", "known": "self number", "waiting": "self", "many_put": "self",
+            "state": "self", "copy": "self",
+        },
+        "Incoming": {
+            "__init__": "self", "take": "self number thing", "taken": "self", "held": "self", "state": "self",
+            "copy": "self",
+        },
+    },
+}
+
+
+def arguments(function):
+    return " ".join(inspect.signature(function).parameters)
+
+
+class InterfaceTest(unittest.TestCase):
+    def test_functions(self):
+        for file, names in FUNCTIONS.items():
+            module = importlib.import_module("knownquiet." + file)
+            for name, told in names.items():
+                function = getattr(module, name)
+                self.assertEqual(function.__module__, "knownquiet." + file)
+                self.assertEqual(arguments(function), told, name)
+
+    def test_classes(self):
+        for file, names in CLASSES.items():
+            module = importlib.import_module("knownquiet." + file)
+            for name, methods in names.items():
+                found = getattr(module, name)
+                self.assertEqual(found.__module__, "knownquiet." + file)
+                for method, told in methods.items():
+                    self.assertIn(method, vars(found))
+                    self.assertEqual(arguments(vars(found)[method]), told, (name, method))
+
+
+if __name__ == "__main__":
+    unittest.main()
