@@ -11,6 +11,11 @@ def is_below(bound, thing):
     return is_number(thing) and thing < bound
 
 
+def is_flag(thing):
+    """Whether a thing is True or False."""
+    return isinstance(thing, bool)
+
+
 def is_tuple_of(many, thing):
     """Whether a thing is a tuple of so many items."""
     return isinstance(thing, tuple) and len(thing) == many
@@ -19,3 +24,28 @@ def is_tuple_of(many, thing):
 def rises(items):
     """Whether each item is greater than the one ahead of it."""
     return all([one < other for one, other in zip(items, items[1:])])
+
+
+def is_lot(thing):
+    """Whether a thing is an ascending tuple of numbers, perhaps of none."""
+    return isinstance(thing, tuple) and all([is_number(item) for item in thing]) and rises(thing)
+
+
+def is_lot_below(bound, thing):
+    """Whether a thing is a lot of numbers below a bound."""
+    return is_lot(thing) and (len(thing) == 0 or thing[-1] < bound)
+
+
+def are_full_ways(many, thing):
+    """Whether a thing is an ascending tuple of ways between so many houses, none of them for the same as another."""
+    if not isinstance(thing, tuple) or not all([is_full_way(many, way) for way in thing]):
+        return False
+    return rises([way[:2] for way in thing])
+
+
+def is_full_way(many, thing):
+    """Whether a thing is a triple of two houses and a tuple of what is on its way, which is not empty."""
+    if not is_tuple_of(3, thing):
+        return False
+    sender, to, items = thing
+    return is_below(many, sender) and is_below(many, to) and isinstance(items, tuple) and len(items) > 0

@@ -1,7 +1,7 @@
 """Works: the rules by which tasks bring tasks, and the standings that come of them."""
 
 from knownquiet.errors import BadWorks, NoGiven, NoHouse, NoStanding, NoTask, NothingThere, TooMany
-from knownquiet.forms import is_below, is_tuple_of, rises
+from knownquiet.forms import are_full_ways, is_below, is_tuple_of
 
 MOST_HOUSES = 6
 MOST_KINDS = 6
@@ -160,18 +160,8 @@ def are_bags(works, thing):
 
 
 def are_ways(works, thing):
-    """Whether a thing is an ascending tuple of ways, none of them for the same houses as another."""
-    if not isinstance(thing, tuple) or not all([is_way(works, way) for way in thing]):
-        return False
-    return rises([way[:2] for way in thing])
-
-
-def is_way(works, thing):
-    """Whether a thing is a triple of two houses and the tasks on their way, one at least."""
-    if not is_tuple_of(3, thing):
-        return False
-    sender, to, tasks = thing
-    return is_house(works, sender) and is_house(works, to) and are_tasks(works, tasks) and len(tasks) > 0
+    """Whether a thing is an ascending tuple of the ways on which tasks are."""
+    return are_full_ways(works.many, thing) and all([are_tasks(works, way[2]) for way in thing])
 
 
 def first_standing(works, given):

@@ -4,6 +4,7 @@ import sys
 
 from knownquiet.errors import BadWorks, NoHouse
 from knownquiet.links import Incoming, Outgoing, outgoing_of
+from knownquiet.posts import Post
 from knownquiet.works import Works, is_task
 
 
@@ -37,7 +38,8 @@ def odd_things():
     ]
     own = [
         small, Works, is_task, outgoing_of, Outgoing(), Incoming(), Outgoing, Outgoing().put, NoHouse(), NoHouse,
-        BadWorks({"a": [1]}), (small, small), [small], {"works": small}, (Outgoing(), Incoming()),
+        BadWorks({"a": [1]}), Post(small, 0), Post, (Post(small, 1), ()), (small, small), [small], {"works": small},
+        (Outgoing(), Incoming()),
     ]
     return plain + boxes + own
 

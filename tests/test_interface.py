@@ -12,6 +12,16 @@ FUNCTIONS = {
         "done_by": "works standing house", "heard_by": "works standing house sender", "plain_run": "works given",
     },
     "links": {"outgoing_of": "state", "incoming_of": "state"},
+    "shares": {"sum_of": "one other", "half": "share"},
+    "states": {
+        "begun": "works house", "is_word": "works thing", "is_state": "works house thing", "gifted": "works state task",
+        "done": "works house state", "heard": "works house state sender word", "passed": "works house state",
+        "says": "works state",
+    },
+    "rows": {
+        "row_of": "parcel", "parcel_of": "row", "is_parcel": "thing", "mark": "row", "sealed": "parcel", "unsealed": "row",
+    },
+    "posts": {"post_of": "works number past"},
 }
 CLASSES = {
     "works": {"Works": {"__init__": "self many rules", "__eq__": "self other"}},
@@ -23,6 +33,12 @@ CLASSES = {
         "Incoming": {
             "__init__": "self", "take": "self number thing", "taken": "self", "held": "self", "state": "self",
             "copy": "self",
+        },
+    },
+    "posts": {
+        "Post": {
+            "__init__": "self works number", "state": "self", "past": "self", "deed": "self thing", "letter": "self to",
+            "part_of": "self number", "copy": "self",
         },
     },
 }
