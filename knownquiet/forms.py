@@ -36,16 +36,6 @@ def is_lot_below(bound, thing):
     return is_lot(thing) and (len(thing) == 0 or thing[-1] < bound)
 
 
-def are_full_ways(many, thing):
-    """Whether a thing is an ascending tuple of ways between so many houses, none of them for the same as another."""
-    if not isinstance(thing, tuple) or not all([is_full_way(many, way) for way in thing]):
-        return False
-    return rises([way[:2] for way in thing])
-
-
-def is_full_way(many, thing):
-    """Whether a thing is a triple of two houses and a tuple of what is on its way, which is not empty."""
-    if not is_tuple_of(3, thing):
-        return False
-    sender, to, items = thing
-    return is_below(many, sender) and is_below(many, to) and isinstance(items, tuple) and len(items) > 0
+def with_item(items, at, item):
+    """Tell the tuple with another item at a place."""
+    return items[:at] + (item,) + items[at + 1:]

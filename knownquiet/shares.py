@@ -3,6 +3,8 @@
 from knownquiet.errors import NoShare
 from knownquiet.forms import is_lot
 
+WHOLE = (0,)
+
 
 def is_share(thing):
     """Whether a thing is a lot of numbers, 0 alone or not in it."""
@@ -32,23 +34,27 @@ def sum_of(one, other):
 
 def added(one, other):
     """Tell the share that two shares come to, or None if that is more than the whole."""
-    if len(one) == 0 or len(other) == 0:
-        return one + other
-    there = {number: True for number in one}
-    for number in other:
-        place = number
-        # Two of the same are one of the next greater, so numbers may be large: no power is ever taken of them.
-        while place in there:
-            del there[place]
-            place -= 1
-        there[place] = True
-    share = tuple(sorted(there))
-    return share if is_whole_at_most(share) else None
+    both = merged((one, other))
+    return both if is_share(both) else None
 
 
-def is_whole_at_most(rising):
-    """Whether rising integers come to the whole at most."""
-    return rising[0] > 0 or rising == (0,)
+def merged(shares):
+    """Tell the rising integers that shares come to: what is more than the whole shows by 0 beside others, or below."""
+    there = {}
+    for share in shares:
+        for number in share:
+            place = number
+            # Two of the same are one of the next greater, so numbers may be large: no power is ever taken of them.
+            while place in there:
+                del there[place]
+                place -= 1
+            there[place] = True
+    return tuple(sorted(there))
+
+
+def are_whole(shares):
+    """Whether shares come to the whole."""
+    return merged(shares) == WHOLE
 
 
 def half(share):

@@ -1,14 +1,23 @@
 """States of houses: what each knows of its tasks, and of the three watchers, and what becomes of it by its deeds."""
 
 from knownquiet.errors import NoShare, NoSign, NoTask, NothingThere, NoWord
-from knownquiet.forms import is_below, is_flag, is_number, is_tuple_of
-from knownquiet.shares import added, halved, is_share, is_some_share
+from knownquiet.forms import is_below, is_flag, is_number, is_tuple_of, with_item
+from knownquiet.shares import WHOLE, added, halved, is_share, is_some_share
 from knownquiet.works import are_tasks, check_house, check_task, is_house, is_task, many_tasks, sent_by
 
 PICTURES = 1000
 MOST_TASKS = 500
-WHOLE = (0,)
 ANSWER = ("answer",)
+# The places of what a state holds.
+BAG = 0
+PARENT = 1
+DEFICIT = 2
+SENT = 3
+HEARD = 4
+BLACK = 5
+SIGN = 6
+SHARE = 7
+SAID = 8
 
 
 def begun(works, house):
@@ -162,22 +171,22 @@ def heard_answer(house, state):
 
 def with_sign(state, sign):
     """Tell the state of one that holds a sign now, and held none."""
-    if state[6] is not None:
+    if state[SIGN] is not None:
         raise NoWord()
-    return state[:6] + (sign,) + state[7:]
+    return with_item(state, SIGN, sign)
 
 
 def with_share(state, share):
     """Tell the state of one to whose share another one is added."""
-    both = added(state[7], share)
+    both = added(state[SHARE], share)
     if both is None:
         raise NoWord()
-    return state[:7] + (both,) + state[8:]
+    return with_item(state, SHARE, both)
 
 
 def can_pass(state):
     """Whether a house with this state can pass the sign."""
-    return state[6] is not None and len(state[0]) == 0 and not state[8]
+    return state[SIGN] is not None and len(state[BAG]) == 0 and not state[SAID]
 
 
 def passed(works, house, state):
@@ -198,5 +207,4 @@ def passed(works, house, state):
 
 def says(works, state):
     """Tell of a state of house 0 whether the tree, the ring, the coin says that all is quiet."""
-    bag, share = state[0], state[7]
-    return (state[1] is None, state[8], len(bag) == 0 and share == WHOLE)
+    return (state[PARENT] is None, state[SAID], len(state[BAG]) == 0 and state[SHARE] == WHOLE)

@@ -1,7 +1,8 @@
 """Works: the rules by which tasks bring tasks, and the standings that come of them."""
 
 from knownquiet.errors import BadWorks, NoGiven, NoHouse, NoStanding, NoTask, NothingThere, TooMany
-from knownquiet.forms import are_full_ways, is_below, is_tuple_of
+from knownquiet.forms import is_below, is_tuple_of, with_item
+from knownquiet.ways import are_full_ways, by_pairs, send, ways_of
 
 MOST_HOUSES = 6
 MOST_KINDS = 6
@@ -177,10 +178,10 @@ def done_by(works, standing, house):
     bags, ways = standing
     if len(bags[house]) == 0:
         raise NothingThere()
-    letters = letters_of(ways)
+    letters = by_pairs(ways)
     for to, sent in sent_by(works, house, bags[house][0]):
-        letters[(house, to)] = letters.get((house, to), ()) + (sent,)
-    return (with_bag(bags, house, bags[house][1:]), ways_of(letters))
+        send(letters, house, to, sent)
+    return (with_item(bags, house, bags[house][1:]), ways_of(letters))
 
 
 def heard_by(works, standing, house, sender):
@@ -189,28 +190,12 @@ def heard_by(works, standing, house, sender):
     check_house(works, house)
     check_house(works, sender)
     bags, ways = standing
-    letters = letters_of(ways)
+    letters = by_pairs(ways)
     tasks = letters.get((sender, house), ())
     if len(tasks) == 0:
         raise NothingThere()
     letters[(sender, house)] = tasks[1:]
-    return (with_bag(bags, house, bags[house] + tasks[:1]), ways_of(letters))
-
-
-def letters_of(ways):
-    """Tell the tasks on their way by the pairs of houses."""
-    return {(sender, to): tasks for sender, to, tasks in ways}
-
-
-def ways_of(letters):
-    """Tell the ascending ways of what letters_of tells, without those that have become empty."""
-    pairs = [pair for pair in sorted(letters) if len(letters[pair]) > 0]
-    return tuple([pair + (letters[pair],) for pair in pairs])
-
-
-def with_bag(bags, house, bag):
-    """Tell the bags with another one in the place of that of a house."""
-    return bags[:house] + (bag,) + bags[house + 1:]
+    return (with_item(bags, house, bags[house] + tasks[:1]), ways_of(letters))
 
 
 def is_quiet(works, standing):

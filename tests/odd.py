@@ -6,6 +6,7 @@ from knownquiet.errors import BadWorks, NoHouse
 from knownquiet.links import Incoming, Outgoing, outgoing_of
 from knownquiet.posts import Post
 from knownquiet.works import Works, is_task
+from knownquiet.yards import Yard
 
 
 def nested(deep, inner, wrap):
@@ -39,7 +40,7 @@ def odd_things():
     own = [
         small, Works, is_task, outgoing_of, Outgoing(), Incoming(), Outgoing, Outgoing().put, NoHouse(), NoHouse,
         BadWorks({"a": [1]}), Post(small, 0), Post, (Post(small, 1), ()), (small, small), [small], {"works": small},
-        (Outgoing(), Incoming()),
+        (Outgoing(), Incoming()), Yard(2), Yard, (Yard(1), ()), Yard(3).ask,
     ]
     return plain + boxes + own
 

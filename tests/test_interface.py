@@ -22,6 +22,13 @@ FUNCTIONS = {
         "row_of": "parcel", "parcel_of": "row", "is_parcel": "thing", "mark": "row", "sealed": "parcel", "unsealed": "row",
     },
     "posts": {"post_of": "works number past"},
+    "glass": {
+        "first_glass": "works", "moved": "works glass move", "given_glass": "works glass task", "is_glass": "works thing",
+        "quiet_glass": "works glass", "broken": "works glass", "lies_told": "works glass", "moves": "works glass",
+        "run_out": "works glass", "pictured": "works parts",
+    },
+    "watchers": {"answers_left": "works glass", "signs_left": "works glass", "shares_left": "works glass"},
+    "yards": {"ring_of": "yard who", "on_rings": "yard"},
 }
 CLASSES = {
     "works": {"Works": {"__init__": "self many rules", "__eq__": "self other"}},
@@ -39,6 +46,13 @@ CLASSES = {
         "Post": {
             "__init__": "self works number", "state": "self", "past": "self", "deed": "self thing", "letter": "self to",
             "part_of": "self number", "copy": "self",
+        },
+    },
+    "yards": {
+        "Yard": {
+            "__init__": "self many", "ask": "self who lot", "grant": "self who other", "bring": "self who other",
+            "probe": "self who", "waits": "self who", "asked_by": "self who", "letters": "self who other",
+            "known_stuck": "self", "copy": "self",
         },
     },
 }

@@ -3,12 +3,13 @@
 import random
 import unittest
 
-from knownquiet.errors import NoDeed, NoHouse, NoNumber, NoPast, NoWord
+from knownquiet.errors import NoDeed, NoHouse, NoNumber, NoPast
 from knownquiet.posts import Post, post_of
 from knownquiet.rows import row_of, sealed, unsealed
-from knownquiet.states import begun, done, gifted, heard, passed
+from knownquiet.states import begun, done, gifted, passed
 from knownquiet.works import Works
 from tests.odd import nested, odd_numbers, odd_things
+from tests.plain import PlainPost
 
 WORKS = Works(2, (((1, 0),),))
 THREE = Works(3, (((1, 1), (0, 2), (1, 0)), ((2, 2),), ()))
@@ -21,86 +22,6 @@ BIG = 99999999999999999999
 
 def letter(sender, to, taken, *items):
     return sealed(("letter", sender, to, taken, tuple(items)))
-
-
-class PlainPost:
-    """An account of a house of its own: all that was ever put and taken, one behind the other."""
-
-    def __init__(self, works, number):
-        self.works, self.number, self.state = works, number, begun(works, number)
-        houses = range(works.many)
-        self.puts = [[] for _ in houses]
-        self.known = [0 for _ in houses]
-        self.took = [[] for _ in houses]
-        self.early = [{} for _ in houses]
-        self.pictures = {}
-
-    def twin(self):
-        other = PlainPost(self.works, self.number)
-        other.state = self.state
-        other.puts = [list(words) for words in self.puts]
-        other.known = list(self.known)
-        other.took = [list(words) for words in self.took]
-        other.early = [dict(words) for words in self.early]
-        other.pictures = {
-            number: (state, [list(words) for words in kept], set(way)) for number, (state, kept, way) in self.pictures.items()
-        }
-        return other
-
-    def past(self):
-        outs = tuple((known, tuple(words[known:])) for known, words in zip(self.known, self.puts))
-        ins = tuple((len(words), tuple(sorted(early.items()))) for words, early in zip(self.took, self.early))
-        pictures = tuple(
-            (number, state, self.kept(kept), tuple(sorted(way)))
-            for number, (state, kept, way) in sorted(self.pictures.items())
-        )
-        return (self.state, outs, ins, pictures)
-
-    def kept(self, kept):
-        return tuple((house, tuple(words)) for house, words in enumerate(kept) if words)
-
-    def follow(self, pair):
-        self.state = pair[0]
-        for to, word in pair[1]:
-            self.puts[to].append(word)
-
-    def picture(self, number):
-        houses = range(self.works.many)
-        self.pictures[number] = (self.state, [[] for _ in houses], set(houses))
-        for to in houses:
-            self.puts[to].append(("mark", number))
-
-    def take(self, sender, word):
-        if word[0] != "mark":
-            self.follow(heard(self.works, self.number, self.state, sender, word))
-            for _, kept, way in self.pictures.values():
-                if sender in way:
-                    kept[sender].append(word)
-            return
-        if word[1] not in self.pictures:
-            self.picture(word[1])
-        way = self.pictures[word[1]][2]
-        if sender not in way:
-            raise NoWord()
-        way.remove(sender)
-
-    def hear(self, told):
-        """What the letter's past is behind it, or None for a letter by which a word would be none."""
-        sender, taken, items = told
-        other = self.twin()
-        other.known[sender] = max(other.known[sender], taken)
-        for number, word in items:
-            due = len(other.took[sender])
-            if due <= number < due + 1000:
-                other.early[sender].setdefault(number, word)
-            while len(other.took[sender]) in other.early[sender]:
-                word = other.early[sender].pop(len(other.took[sender]))
-                other.took[sender].append(word)
-                try:
-                    other.take(sender, word)
-                except NoWord:
-                    return None
-        return other
 
 
 class BegunTest(unittest.TestCase):
@@ -530,27 +451,15 @@ class RunTest(unittest.TestCase):
         return posts, told
 
     def deed(self, posts, plain, house, chance):
-        works = plain[house].works
-        deed = chance.choice([("do",), ("do",), ("do",), ("pass",), ("give", (0, chance.randint(0, 3))), ("picture", chance.randrange(6))])
+        give, picture = ("give", (0, chance.randint(0, 3))), ("picture", chance.randrange(6))
+        deed = chance.choice([("do",), ("do",), ("do",), ("pass",), give, picture])
         mine = plain[house]
-        state = mine.state
-        can = {
-            "do": len(state[0]) > 0, "pass": state[6] is not None and not state[0] and not state[8], "give": house == 0,
-            "picture": deed[-1] not in mine.pictures,
-        }[deed[0]]
-        if not can:
+        if not mine.can(deed):
             with self.assertRaises(NoDeed):
                 posts[house].deed(deed)
             return
         self.assertIsNone(posts[house].deed(deed))
-        if deed[0] == "picture":
-            mine.picture(deed[1])
-        elif deed[0] == "do":
-            mine.follow(done(works, house, state))
-        elif deed[0] == "pass":
-            mine.follow(passed(works, house, state))
-        else:
-            mine.follow(gifted(works, state, deed[1]))
+        mine.deed(deed)
 
     def hear(self, post, mine, row, told):
         _, sender, to, taken, items = unsealed(row)[0]
