@@ -95,6 +95,11 @@ def whole_of(number):
 def parcel_of(row):
     """Tell the parcel of which this is the row."""
     check_row(row)
+    return read_row(row)
+
+
+def read_row(row):
+    """Tell the parcel of which this, known to be a row, is the row."""
     parcel, behind = read_parcel(row, 0, DEEPEST)
     if behind < len(row):
         raise BadRow(behind)
@@ -166,6 +171,11 @@ def read_items(row, place, many, deep):
 def mark(row):
     """Tell the mark of a row, by which it is sealed."""
     check_row(row)
+    return mark_of(row)
+
+
+def mark_of(row):
+    """Tell the mark of what is known to be a row."""
     number = 1
     for byte in row:
         number = (FACTOR * number + byte + 1) % PRIME
@@ -180,7 +190,7 @@ def sealed(parcel):
 
 def seal_of(row):
     """Tell the four bytes that seal a row, the lowest first."""
-    number = mark(row) % SEALS
+    number = mark_of(row) % SEALS
     return tuple([number // 256 ** at % 256 for at in range(4)])
 
 
@@ -189,6 +199,6 @@ def unsealed(row):
     if not is_row(row) or len(row) < 4 or seal_of(row[:-4]) != row[-4:]:
         return ()
     try:
-        return (parcel_of(row[:-4]),)
+        return (read_row(row[:-4]),)
     except BadRow:
         return ()
