@@ -5,8 +5,8 @@ from knownquiet.forms import is_tuple_of, with_item
 from knownquiet.pictures import is_closed_part
 from knownquiet.shares import are_whole
 from knownquiet.states import (
-    ANSWER, BAG, DEFICIT, HEARD, PARENT, SAID, SENT, SHARE, SIGN, are_words, begun, can_pass, done, gifted, heard,
-    is_state, passed, says,
+    ANSWER, BAG, DEFICIT, HEARD, PARENT, SAID, SENT, SHARE, SIGN, are_words, begun, can_pass, done, gifted,
+    heard_word, is_state, passed, says,
 )
 from knownquiet.ways import are_full_ways, by_pairs, send, ways_of
 from knownquiet.works import MOST_DONE, is_house, many_of_all
@@ -189,7 +189,7 @@ def behind_deed(works, states, pairs, move):
         return done(works, house, states[house])
     if move[0] == "pass":
         return passed(works, house, states[house])
-    return heard(works, house, states[house], move[1], pairs[move[1:]][0])
+    return heard_word(house, states[house], move[1], pairs[move[1:]][0])
 
 
 def given_glass(works, glass, task):

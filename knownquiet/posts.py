@@ -9,7 +9,7 @@ from knownquiet.pictures import (
     are_pictures, new_picture, part_told, pictures_of, pictures_told, with_closed, with_word,
 )
 from knownquiet.rows import is_row, sealed, unsealed
-from knownquiet.states import PICTURES, begun, done, gifted, heard, is_state, is_word, passed
+from knownquiet.states import PICTURES, begun, done, gifted, heard_word, is_state, is_word, passed
 from knownquiet.works import check_house, is_house, is_task
 
 MOST_ITEMS = 20
@@ -231,7 +231,7 @@ def take_word(post, sender, word):
     if word[0] == "mark":
         take_mark(post, sender, word[1])
         return
-    follow(post, heard(post.works, post.number, post.own, sender, word))
+    follow(post, heard_word(post.number, post.own, sender, word))
     post.pictures = with_word(post.pictures, sender, word)
 
 
