@@ -8,7 +8,7 @@ from knownquiet.links import (
 from knownquiet.pictures import (
     are_pictures, new_picture, part_told, pictures_of, pictures_told, with_closed, with_word,
 )
-from knownquiet.rows import is_row, sealed, unsealed
+from knownquiet.rows import sealed, unsealed
 from knownquiet.states import PICTURES, begun, done, gifted, heard_word, is_state, is_word, passed
 from knownquiet.works import check_house, is_house, is_task
 
@@ -135,7 +135,8 @@ def is_deed(works, thing):
         return is_task(works, rest[0])
     if name == "picture":
         return is_below(PICTURES, rest[0])
-    return name == "hear" and is_row(rest[0])
+    # Whatever may be heard: what is no row is heard by nobody, as what is sealed of nothing is.
+    return name == "hear"
 
 
 def do_deed(post, thing):
@@ -172,7 +173,7 @@ def begin_picture(post, number):
 
 
 def hear_row(post, row):
-    """Let a Post hear a row, and tell whether it was none, old, or new."""
+    """Let a Post hear what should be a row, and tell whether it was none, old, or new."""
     letter = letter_for(post, row)
     if letter is None:
         return "none"

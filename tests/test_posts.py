@@ -96,8 +96,7 @@ class DeedTest(unittest.TestCase):
             (), "do", ["do"], ("do", 0), ("do", ()), ("Do",), ("give",), ("give", 1, 1), ("give", ()), ("give", (3, 0)),
             ("give", (0, 13)), ("give", [0, 0]), ("give", (0, 0), 0), ("pass", 0), ("picture",), ("picture", -1),
             ("picture", 1000), ("picture", True), ("picture", None), ("picture", "1"), ("picture", 1, 1), ("hear",),
-            ("hear", None), ("hear", [1, 2]), ("hear", (256,)), ("hear", (-1,)), ("hear", (True,)), ("hear", "ab"),
-            ("hear", (0,), 0), ("hear", list(letter(1, 0, 0))), ("letter",), ("keep",), (None,), ((),), (b"do",),
+            ("hear", None, None), ("hear", (0,), 0), ["hear", None], ("heard", None), ("letter",), ("keep",), (None,), ((),), (b"do",),
             (("do",),), ("do\n",), ("give", (0, 0, 0)),
         ]
         for thing in wrong + odd_things() + [("give", thing) for thing in odd_things() if thing != (0, 0)]:
@@ -108,10 +107,6 @@ class DeedTest(unittest.TestCase):
                 post.deed(("picture", thing))
             with self.assertRaises(NoDeed):
                 post.deed((thing,))
-        for thing in odd_things():
-            if thing != (0, 1, 2, 3):
-                with self.assertRaises(NoDeed):
-                    post.deed(("hear", thing))
         self.assertEqual(post.past(), past)
 
 
@@ -182,6 +177,17 @@ class HearTest(unittest.TestCase):
             self.none(self.other, row[:at] + ((row[at] + 1) % 256,) + row[at + 1:])
         for thing in [(), (0,), row[:-1], row + (0,), row[1:], (7,) * 30]:
             self.none(self.other, thing)
+        self.assertEqual(self.other.deed(("hear", row)), "new")
+
+    def test_what_is_no_row(self):
+        row = self.first.letter(1)
+        near = [
+            None, 0, "row", [0], [1, 2], (256,), (-1,), (True,), "ab", (), ((),), ([1],), {}, {0: ()}, list(row), (row,),
+            row[:-1] + (None,), row[:-1] + (str(row[-1]),), (row[0] + 256,) + row[1:], (row[0] - 256,) + row[1:],
+        ]
+        for thing in near + odd_things() + odd_numbers():
+            self.none(self.other, thing)
+            self.none(self.first, thing)
         self.assertEqual(self.other.deed(("hear", row)), "new")
 
     def test_for_another_house(self):
