@@ -5,7 +5,7 @@ from knownquiet.forms import is_tuple_of, with_item
 from knownquiet.pictures import is_closed_part
 from knownquiet.shares import are_whole
 from knownquiet.states import (
-    ANSWER, BAG, DEFICIT, HEARD, PARENT, SAID, SENT, SHARE, SIGN, are_words, begun, can_pass, done, gifted,
+    ANSWER, BAG, DEFICIT, HEARD, PARENT, SAID, SENT, SHARE, SIGN, WATCHERS, are_words, begun, can_pass, done, gifted,
     heard_word, is_state, passed, says,
 )
 from knownquiet.ways import are_full_ways, by_pairs, send, ways_of
@@ -131,7 +131,7 @@ def lies_told(works, glass):
     if quiet_glass(works, glass):
         return ()
     told = says(works, glass[0][0])
-    return tuple([word for word, flag in zip(("tree", "ring", "coin"), told) if flag])
+    return tuple([word for word, flag in zip(WATCHERS, told) if flag])
 
 
 def moves(works, glass):

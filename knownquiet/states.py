@@ -8,6 +8,7 @@ from knownquiet.works import are_tasks, check_house, check_task, is_house, is_ta
 PICTURES = 1000
 MOST_TASKS = 500
 ANSWER = ("answer",)
+WATCHERS = ("tree", "ring", "coin")
 # The places of what a state holds.
 BAG = 0
 PARENT = 1

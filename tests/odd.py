@@ -2,9 +2,15 @@
 
 import sys
 
+from knownquiet.desks import Desk
+from knownquiet.disks import Disk
 from knownquiet.errors import BadWorks, NoHouse
+from knownquiet.films import Reel
 from knownquiet.links import Incoming, Outgoing, outgoing_of
+from knownquiet.nets import Net
 from knownquiet.posts import Post
+from knownquiet.records import Record
+from knownquiet.savings import SavedHouse
 from knownquiet.works import Works, is_task
 from knownquiet.yards import Yard
 
@@ -40,7 +46,9 @@ def odd_things():
     own = [
         small, Works, is_task, outgoing_of, Outgoing(), Incoming(), Outgoing, Outgoing().put, NoHouse(), NoHouse,
         BadWorks({"a": [1]}), Post(small, 0), Post, (Post(small, 1), ()), (small, small), [small], {"works": small},
-        (Outgoing(), Incoming()), Yard(2), Yard, (Yard(1), ()), Yard(3).ask,
+        (Outgoing(), Incoming()), Yard(2), Yard, (Yard(1), ()), Yard(3).ask, Record(small, (), ()), Record, Disk().write,
+        SavedHouse(small, 1, Disk()), SavedHouse, Net(small), Net, Reel(Record(small, (), ()), 1), Desk(), Desk().tell,
+        (Record(small, (), ()),), [Disk()], (Disk(), ()), {0: Net(small)},
     ]
     return plain + boxes + own
 

@@ -29,6 +29,18 @@ FUNCTIONS = {
     },
     "watchers": {"answers_left": "works glass", "signs_left": "works glass", "shares_left": "works glass"},
     "yards": {"ring_of": "yard who", "on_rings": "yard"},
+    "records": {
+        "first_wrong": "record", "standing_at": "record at", "quiet_from": "record", "lies_in": "record",
+    },
+    "causes": {
+        "causes": "record", "vectors": "record", "is_ahead": "record one other", "is_cut": "record thing",
+        "is_order": "record thing", "standing_of_cut": "record cut", "least_quiet": "record", "many_cuts": "record",
+        "rearranged": "record order",
+    },
+    "disks": {"kept_parcels": "blocks"},
+    "nets": {"led_by": "net deeds", "round_trip": "net", "settle": "net most"},
+    "texts": {"works_text": "works", "record_text": "record", "read_works": "text", "read_record": "text"},
+    "films": {"drawn": "works standing", "drawn_record": "record", "drawn_causes": "record at"},
 }
 CLASSES = {
     "works": {"Works": {"__init__": "self many rules", "__eq__": "self other"}},
@@ -55,6 +67,32 @@ CLASSES = {
             "known_stuck": "self", "copy": "self",
         },
     },
+    "records": {"Record": {"__init__": "self works given events", "__eq__": "self other"}},
+    "disks": {
+        "Disk": {
+            "__init__": "self", "write": "self row", "sync": "self", "synced": "self", "blocks": "self", "cut": "self kept",
+            "drop": "self number", "copy": "self",
+        },
+    },
+    "savings": {
+        "SavedHouse": {
+            "__init__": "self works number disk", "state": "self", "past": "self", "deed": "self thing",
+            "letter": "self to", "part_of": "self number", "copy": "self", "keep": "self", "moved": "self disk",
+        },
+    },
+    "nets": {
+        "Net": {
+            "__init__": "self works", "house": "self number", "disk": "self number", "bag": "self", "glass": "self",
+            "deed": "self thing",
+        },
+    },
+    "films": {
+        "Reel": {
+            "__init__": "self record every", "stands": "self", "standing": "self", "seek": "self at", "kept": "self",
+            "worked": "self", "copy": "self", "many_events": "self",
+        },
+    },
+    "desks": {"Desk": {"__init__": "self", "tell": "self line"}},
 }
 
 

@@ -26,6 +26,12 @@ DUNDERS = (
     "__init__ __eq__ __repr__ __str__ __len__ __enter__ __exit__ __call__ __iter__ __lt__ __le__ __gt__ __ge__ __ne__ "
     "__contains__ __getitem__ __setitem__ __bool__"
 ).split()
+VIEWS = ("zip", "enumerate", "reversed", "range", "items", "keys", "values")
+AT_ONCE = ("list", "tuple", "dict", "sorted", "sum", "any", "all", "enumerate", "zip", "min", "max")
+BARRED = (
+    "type typing typing_extensions enum Enum IntEnum StrEnum Flag IntFlag Generic Protocol ABC ABCMeta namedtuple "
+    "NamedTuple TypedDict TYPE_CHECKING abstractmethod dataclass overload contextmanager"
+).split()
 LIBRARY = ("heapq", "math", "itertools", "collections")
 FORBIDDEN = (
     ast.Global, ast.AsyncFunctionDef, ast.AsyncFor, ast.AsyncWith, ast.Await, ast.Import, ast.Div, ast.MatMult,
@@ -55,6 +61,11 @@ def bound_names(node):
     if isinstance(node, ast.alias):
         return [node.asname or node.name]
     return [node.id] if isinstance(node, ast.Name) and isinstance(node.ctx, ast.Store) else []
+
+
+def called(node):
+    """The name of what a call calls."""
+    return node.func.id if isinstance(node.func, ast.Name) else getattr(node.func, "attr", None)
 
 
 def methods():
@@ -163,6 +174,65 @@ class LanguageTest(unittest.TestCase):
         for file, node in nodes(ast.FunctionDef, ast.ClassDef):
             self.assertEqual(node.decorator_list, [], (file, node.name))
 
+    def test_what_the_package_does_without(self):
+        kinds = (
+            ast.Set, ast.SetComp, ast.Lambda, ast.Yield, ast.YieldFrom, ast.Starred, ast.NamedExpr, ast.Match, ast.With,
+            ast.Nonlocal, ast.AnnAssign,
+        )
+        self.assertEqual([(file.name, node.lineno) for file, node in nodes(*kinds)], [])
+        for file, node in nodes(ast.FunctionDef):
+            arguments = node.args
+            odd = [arguments.defaults, arguments.vararg, arguments.kwarg, arguments.kwonlyargs, arguments.posonlyargs]
+            self.assertFalse(any(odd), (file, node.name))
+            inner = [part for part in ast.walk(node) if isinstance(part, ast.FunctionDef) and part is not node]
+            self.assertEqual(inner, [], (file, node.name))
+        for file, node in nodes(ast.Call):
+            keywords = [keyword.arg for keyword in node.keywords]
+            self.assertIn(keywords, ([], ["start"], ["default"]), (file, node.lineno))
+
+    def test_views_are_iterated_at_once(self):
+        for file in files():
+            tree = tree_of(file)
+            above = {id(child): node for node in ast.walk(tree) for child in ast.iter_child_nodes(node)}
+            for node in ast.walk(tree):
+                if isinstance(node, ast.Call) and called(node) in VIEWS:
+                    over = above[id(node)]
+                    fine = isinstance(over, (ast.For, ast.comprehension)) and over.iter is node
+                    fine = fine or (isinstance(over, ast.Call) and called(over) in AT_ONCE and over.args[0] is node)
+                    self.assertTrue(fine, (file, node.lineno))
+
+    def test_super(self):
+        for file, node in nodes(ast.ClassDef):
+            for method in [part for part in node.body if isinstance(part, ast.FunctionDef)]:
+                for part in ast.walk(method):
+                    if isinstance(part, ast.Name) and part.id == "super":
+                        self.assertNotEqual(method.name, "__init__", file)
+
+    def test_raise(self):
+        for file, node in nodes(ast.Raise):
+            self.assertIsInstance(node.exc, ast.Call, (file, node.lineno))
+            self.assertIsInstance(node.exc.func, ast.Name, (file, node.lineno))
+            self.assertIsNone(node.cause, (file, node.lineno))
+
+    def test_strings(self):
+        for file in files():
+            tree = tree_of(file)
+            owners = [node for node in ast.walk(tree) if isinstance(node, (ast.Module, ast.ClassDef, ast.FunctionDef))]
+            docstrings = [id(node.body[0].value) for node in owners if node.body and isinstance(node.body[0], ast.Expr)]
+            for node in ast.walk(tree):
+                if isinstance(node, ast.Constant) and isinstance(node.value, str) and id(node) not in docstrings:
+                    self.assertNotIn("__", node.value, (file, node.lineno))
+                    for word in BARRED:
+                        self.assertNotIn(word, node.value.replace(".", " ").split(" "), (file, node.lineno))
+
+    def test_tables(self):
+        # A table at module level holds no lists and no dicts.
+        for file in files():
+            for part in tree_of(file).body:
+                if isinstance(part, ast.Assign):
+                    inner = [node for node in ast.walk(part.value) if node is not part.value]
+                    self.assertFalse([node for node in inner if isinstance(node, (ast.List, ast.Dict))], file)
+
     def test_sets_and_generators(self):
         # A class has an equality of its own: any, all, sum and their kin take lists.
         self.assertEqual([(file.name, node.lineno) for file, node in nodes(ast.GeneratorExp)], [])
@@ -171,12 +241,15 @@ class LanguageTest(unittest.TestCase):
                 self.assertNotEqual(node.func.attr, "sort", (file, node.lineno))
 
     def test_no_name_is_a_method_and_an_attribute(self):
+        every = [method.name for method in methods()]
         for file, node in nodes(ast.ClassDef):
             inside = [part.name for part in node.body if isinstance(part, ast.FunctionDef)]
             stored = [
                 part.attr for part in ast.walk(node) if isinstance(part, ast.Attribute) and isinstance(part.ctx, ast.Store)
             ]
             self.assertEqual([name for name in stored if name in inside], [], (file, node.name))
+            # A subclass reads what its bases store: no name is a method in one class and an attribute in another.
+            self.assertEqual([name for name in stored if name in every], [], (file, node.name))
             self.assertEqual(len(inside), len(set(inside)), (file, node.name))
 
 
