@@ -239,6 +239,27 @@ class NetTest(unittest.TestCase):
         ]:
             self.assertEqual(desk.tell(line), answer, line)
 
+    def test_one_watcher_alone(self):
+        # House 2 has done the last task: its share goes to house 0, its answer to house 1, which does not hear it yet.
+        desk = desk_of("works c houses 3|kind 1:0|", "net c c", "give c 0 2")
+        for house in range(3):
+            desk.tell(f"work c {house}")
+            desk.tell(f"post c {house} {(house + 1) % 3}")
+            desk.tell("bring c 0")
+        self.assertEqual((desk.tell("says c"), desk.tell("shape c")), ("none", "0:|1:|2:|1>0: 1|2>1: 1|"))
+        for line in ("post c 1 0", "bring c 0"):
+            desk.tell(line)
+        self.assertEqual((desk.tell("says c"), desk.tell("sums c")), ("coin", "none"))
+
+    def test_broken_sums(self):
+        # No deeds break a sum: so the houses are changed from within.
+        desk = full()
+        house = desk.shelves["net"]["n"].house(0)
+        house.own = house.own[:3] + (1,) + house.own[4:]
+        self.assertEqual(desk.tell("sums n"), "counts")
+        house.own = house.own[:7] + ((), ) + house.own[8:]
+        self.assertEqual(desk.tell("sums n"), "counts shares")
+
     def test_what_cannot_be_done(self):
         desk = full()
         before = state_of(desk)

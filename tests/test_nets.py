@@ -193,6 +193,9 @@ class DeedTest(unittest.TestCase):
         )
         net.deed(("send", 1, ()))
         self.can_not(("spoil", 1, 0, 0))
+        for byte in (255, 0):
+            self.assertIsNone(net.deed(("spoil", 0, 1, byte)))
+            self.assertEqual(net.bag()[0][1][1], byte)
 
     def test_send(self):
         net = self.net

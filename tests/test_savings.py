@@ -252,7 +252,7 @@ class MadeTest(unittest.TestCase):
             ("deed", deeds[2]), ("deed", ("hear", letter(1, 0, 0))), ("deed", ("hear", ())), ("deed", ("hear", None)),
             ("deed", ("hear",)), ("deed", ("hear", letter(1, 0, 9))), ("past", None), ("past", past[:3]), ("past", past + ((),)),
             ("past", (past[0][:1] + (1,) + past[0][2:],) + past[1:]), ("past", after(THREE, 0, []).past()), ("past",),
-            ("past", past, past),
+            ("past", past, past), ("Past", past), ("deed", past), (None, past), (past, "past"),
             ("past", (past[0][:5] + (0,) + past[0][6:],) + past[1:]), ("house", 2, WORKS.rules, 0), ("keep",), 5,
             ("past", (past[0][:2] + (True,) + past[0][3:],) + past[1:]),
         ]
